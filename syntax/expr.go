@@ -62,14 +62,3 @@ func (p *parser) unit() int {
 
 // units are the words for units, by their numbers.
 var units = [6]string{api.NoneU: "", api.LitreU: "l", api.CubicU: "m3", api.HourU: "h", api.DayU: "d", api.AreU: "a"}
-
-// isWord reports whether a name is a word in quotes of the grammar.
-func isWord(s string) bool {
-	switch s {
-	case "district", "season", "reservoir", "holds", "let", "crop", "needs", "reach", "from", "delay", "capacity", "bank", "siphon",
-		"evaporation", "to", "seepage", "farm", "on", "river", "area", "rotation", "rank", "flow", "turn", "for", "take", "of", "every",
-		"own", "easement", "duty", "by", "l", "m3", "h", "d", "a":
-		return true
-	}
-	return false
-}

@@ -4,6 +4,7 @@ package syntax
 import (
 	"acequia/api"
 	"acequia/lex"
+	"acequia/words"
 )
 
 // parser reads tokens. Nest counts the parentheses around the next token.
@@ -72,7 +73,7 @@ func (p *parser) number() int {
 }
 
 func (p *parser) name() string {
-	if len(p.tokens) == 0 || p.tokens[0].Kind != api.NameT || isWord(p.tokens[0].Text) {
+	if len(p.tokens) == 0 || p.tokens[0].Kind != api.NameT || words.Is(p.tokens[0].Text) {
 		p.fail()
 	}
 	s := p.tokens[0].Text

@@ -5,6 +5,7 @@ import (
 
 	"acequia/api"
 	"acequia/lex"
+	"acequia/words"
 )
 
 // writer writes tokens; line has those of the line that has not ended.
@@ -44,7 +45,7 @@ func (w *writer) put(parts ...any) {
 		case word:
 			w.word(string(x))
 		case string:
-			require(lex.Name(x) && !isWord(x))
+			require(lex.Name(x) && !words.Is(x))
 			w.line = append(w.line, api.Token{Kind: api.NameT, Text: x})
 		case api.Ref:
 			w.put(x.Name)
