@@ -139,3 +139,36 @@ func TestConsequences(t *testing.T) {
 		}
 	}
 }
+
+// P20.6: a further reach, and a further farm.
+func TestFurther(t *testing.T) {
+	r := rand.New(rand.NewSource(21))
+	for range 100 {
+		d := random(r)
+		last := len(d.Reaches)
+		up := r.Intn(last)
+		more := d
+		more.Reaches = append(slices.Clone(d.Reaches), api.Reach{Up: up, Delay: 1, Seep: [2]api.Ratio{{D: 1}, {D: 1}}})
+		more.Farms = append(slices.Clone(d.Farms), api.Farm{Reach: up, Crop: -1})
+		path, _ := Path(more, last)
+		for i := range d.Reaches {
+			children, _ := Children(d, i)
+			below, _ := Below(d, i)
+			farms, _ := Farms(d, i)
+			if i == up {
+				children, farms = append(children, last), append(farms, len(d.Farms))
+			}
+			if slices.Contains(path, i) {
+				below = append(below, last)
+			}
+			c, _ := Children(more, i)
+			b, _ := Below(more, i)
+			f, _ := Farms(more, i)
+			p, _ := Path(d, i)
+			q, _ := Path(more, i)
+			if !slices.Equal(c, children) || !slices.Equal(b, below) || !slices.Equal(f, farms) || !slices.Equal(p, q) {
+				t.Fatalf("the reach %d, with one more below %d", i, up)
+			}
+		}
+	}
+}

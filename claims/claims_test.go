@@ -192,3 +192,27 @@ func checkOnce(t *testing.T, d api.District, l []api.Deed, c []api.Claim, b []ap
 		t.Fatalf("%d holdings", n)
 	}
 }
+
+// P26.6: a private reach that becomes an easement of its owner blocks nobody any more.
+func TestNoLongerPrivate(t *testing.T) {
+	d := district()
+	eased := d
+	eased.Rights = slices.Clone(d.Rights)
+	eased.Rights[2].Kind = api.EaseR
+	before, e1 := Blocked(d, nil, 0, 23, 0)
+	after, e2 := Blocked(eased, nil, 0, 23, 0)
+	if e1 != api.OK || e2 != api.OK || len(before) == 0 || len(after) != 0 {
+		t.Errorf("%v, %v", before, after)
+	}
+	two := eased
+	two.Rights = append(slices.Clone(eased.Rights), api.Right{Kind: api.OwnR, Farm: 0, Reach: 2, To: 23})
+	both := d
+	both.Rights = append(slices.Clone(d.Rights), api.Right{Kind: api.OwnR, Farm: 0, Reach: 2, To: 23})
+	wide, _ := Blocked(both, nil, 0, 23, 0)
+	narrow, _ := Blocked(two, nil, 0, 23, 0)
+	for _, b := range narrow {
+		if !slices.ContainsFunc(wide, func(x api.Block) bool { return x.Right == b.Right && x.Farm == b.Farm && x.Hour == b.Hour }) {
+			t.Errorf("%v is blocked now", b)
+		}
+	}
+}

@@ -196,3 +196,51 @@ func checkReach(t *testing.T, r *rand.Rand, d api.District, claims []int, c api.
 		t.Fatalf("the reach %d: %d of %d, %v, %v", reach, drawn, w, again, parts)
 	}
 }
+
+// P41.4: any parts of a reach share what they have together, if no reach has a siphon. P41.7: claims elsewhere matter only through needs.
+func TestParts(t *testing.T) {
+	r := rand.New(rand.NewSource(42))
+	for range 500 {
+		d, claims := random(r)
+		for i := range d.Reaches {
+			d.Reaches[i].Siphon = 0
+		}
+		heads, _, _ := Needs(d, claims)
+		c, _ := Divide(d, claims, r.Intn(heads[0]+1))
+		for reach := range d.Reaches {
+			all, _ := Shares(d, claims, reach)
+			var got []int
+			for i, f := range d.Farms {
+				if f.Reach == reach {
+					got = append(got, c.Awards[i])
+				}
+			}
+			for i, x := range d.Reaches {
+				if x.Up == reach {
+					got = append(got, c.Heads[i])
+				}
+			}
+			var some, parts []int
+			total := 0
+			for i, n := range got {
+				if r.Intn(2) == 0 {
+					some, parts = append(some, all[i]), append(parts, n)
+					total += n
+				}
+			}
+			if again, _ := garment.Award(total, some); !slices.Equal(again, parts) {
+				t.Fatalf("%d of %v: %v, %v", total, some, again, parts)
+			}
+		}
+		swapped := slices.Clone(claims)
+		swapped[1], swapped[2] = swapped[2], swapped[1]
+		estate := r.Intn(heads[0] + 1)
+		a, _ := Divide(d, claims, estate)
+		b, _ := Divide(d, swapped, estate)
+		for _, farm := range []int{0, 3, 4, 5} {
+			if a.Awards[farm] != b.Awards[farm] {
+				t.Fatalf("the farm %d notices who claims elsewhere", farm)
+			}
+		}
+	}
+}

@@ -139,3 +139,34 @@ func checkExchange(t *testing.T, x api.Ensemble, low, high int) {
 		t.Fatalf("%d outside, without %d and %d", outside, low, high)
 	}
 }
+
+// P36.5: what lies within all lists lies within what they have in common. P36.6: a further member.
+func TestFurtherMember(t *testing.T) {
+	r := rand.New(rand.NewSource(37))
+	for range 500 {
+		x := api.Ensemble{}
+		for range 2 + r.Intn(6) {
+			x.Members = append(x.Members, []int{r.Intn(20)})
+		}
+		low := r.Intn(len(x.Members) - 1)
+		more := api.Ensemble{Members: append(slices.Clone(x.Members), []int{r.Intn(20)})}
+		with, _ := Bounds(more, low, 0)
+		same, _ := Bounds(x, low, 0)
+		least := 0
+		if low > 0 {
+			before, _ := Bounds(x, low-1, 0)
+			least = before[0].Lo
+		}
+		if with[0].Lo > same[0].Lo || with[0].Lo < least {
+			t.Fatalf("%v begins at %d", more, with[0].Lo)
+		}
+		a, b := span(r.Intn(6), 6+r.Intn(6)), span(r.Intn(12), 12)
+		common, ok, _ := Meet([][]api.Range{{a}, {b}})
+		for n := range 14 {
+			in := a.Lo <= n && n <= a.Hi && b.Lo <= n && n <= b.Hi
+			if in != (ok && common[0].Lo <= n && n <= common[0].Hi) {
+				t.Fatalf("%d in %v and %v", n, a, b)
+			}
+		}
+	}
+}

@@ -277,3 +277,26 @@ func TestOf(t *testing.T) {
 		}
 	}
 }
+
+// P48.6: wider ranges are explained by whoever explains narrower ones.
+func TestWider(t *testing.T) {
+	r := rand.New(rand.NewSource(49))
+	d := district()
+	for range 300 {
+		x := random(r)
+		narrow, _ := Table(d, x)
+		for i := range x.Waves {
+			for _, l := range [][]api.Range{x.Waves[i].Heads, x.Waves[i].Outlets, x.Waves[i].Tails} {
+				for k := range l {
+					l[k] = api.Range{Lo: max(0, l[k].Lo-r.Intn(2)), Hi: l[k].Hi + r.Intn(2)}
+				}
+			}
+		}
+		wide, _ := Table(d, x)
+		for set := range narrow {
+			if narrow[set] && !wide[set] {
+				t.Fatalf("%v: the set %b", x, set)
+			}
+		}
+	}
+}

@@ -224,3 +224,33 @@ func TestLaws(t *testing.T) {
 		}
 	}
 }
+
+// P13.6: sums and products in any order and grouping.
+func TestGrouping(t *testing.T) {
+	l := small()
+	for i, a := range l {
+		for k, b := range l {
+			sum, _ := Add(a, b)
+			mus, _ := Add(b, a)
+			product, _ := Mul(a, b)
+			tcudorp, _ := Mul(b, a)
+			c := l[(i*k+7)%len(l)]
+			bc, _ := Add(b, c)
+			left, _ := Add(a, bc)
+			right, _ := Add(sum, c)
+			bcm, _ := Mul(b, c)
+			leftm, _ := Mul(a, bcm)
+			rightm, _ := Mul(product, c)
+			if sum != mus || product != tcudorp || left != right || leftm != rightm {
+				t.Fatalf("%v, %v, %v", a, b, c)
+			}
+			wide, _ := Hull(a, b)
+			narrow, ok, _ := Meet(a, b)
+			for _, x := range [][2]api.Range{{a, wide}, {b, wide}, {narrow, a}, {narrow, b}} {
+				if in, _ := Inside(x[0], x[1]); !in && (ok || x[0] != narrow) {
+					t.Fatalf("%v is not inside %v", x[0], x[1])
+				}
+			}
+		}
+	}
+}

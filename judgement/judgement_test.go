@@ -9,6 +9,7 @@ import (
 	"acequia/api"
 	"acequia/claims"
 	"acequia/precedents"
+	"acequia/timetable"
 )
 
 // district has the farms 0, 1 and 2 at the reach 0, and 3 at the reach 1, and rights of the ranks 0 to 3.
@@ -266,5 +267,38 @@ func TestWithoutClash(t *testing.T) {
 			}
 			b = x
 		}
+	}
+}
+
+// P53.7: what can be served before judgements can be served after them.
+func TestTimetable(t *testing.T) {
+	r := rand.New(rand.NewSource(55))
+	d := district()
+	d.Tank = api.Tank{Cap: 100, Start: 100}
+	for i := range d.Reaches {
+		d.Reaches[i].Cap, d.Reaches[i].Bank = 20, 30
+	}
+	served := 0
+	for range 300 {
+		var c []api.Claim
+		for hour := 2; hour < 10; hour++ {
+			for right := range 4 {
+				if r.Intn(3) == 0 {
+					c = append(c, claim(hour, right, right, 1+r.Intn(9)))
+				}
+			}
+		}
+		if _, ok, _ := timetable.Make(d, c); !ok {
+			continue
+		}
+		served++
+		j := []api.Judgement{order(1, 0, api.ReturnJ, 0, 1+r.Intn(2), 0, 9, 1+r.Intn(9)), order(2, r.Intn(9), api.LimitJ, 1, 0, 0, 9, 1+r.Intn(5)), order(3, 9, api.CloseJ, 3, 0, 0, 9, 0)}
+		x, e := Execute(d, c, j)
+		if _, ok, f := timetable.Make(d, x); e != api.OK || !ok || f != api.OK {
+			t.Fatalf("%v becomes %v", c, x)
+		}
+	}
+	if served < 50 {
+		t.Errorf("only %d lists of claims are served", served)
 	}
 }

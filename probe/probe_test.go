@@ -7,6 +7,7 @@ import (
 	"testing"
 
 	"acequia/api"
+	"acequia/suspects"
 )
 
 func probe(cost int, set ...int) api.Probe { return api.Probe{Cost: cost, Set: set} }
@@ -169,5 +170,28 @@ func TestLaws(t *testing.T) {
 				t.Fatal("a cheaper measurement")
 			}
 		}
+	}
+}
+
+// P50.5: minimal explanations are valid hypotheses.
+func TestExplanations(t *testing.T) {
+	exact := func(l ...int) (r []api.Range) {
+		for _, n := range l {
+			r = append(r, api.Range{Lo: n, Hi: n})
+		}
+		return r
+	}
+	d := api.District{Hours: 8, Reaches: []api.Reach{{Up: -1, Delay: 1, Seep: [2]api.Ratio{{D: 1}, {D: 1}}}}, Farms: []api.Farm{{Crop: -1}}}
+	x := api.Evidence{
+		Waves:    []api.Wave{{Heads: exact(10), Outlets: exact(4), Tails: exact(3)}},
+		Suspects: []api.Suspect{{Kind: api.HeadQ, Most: 1}, {Kind: api.OutletQ, Most: 9}, {Kind: api.PumpQ, Most: 3}},
+	}
+	l, e := suspects.Minimal(d, x)
+	if f := Check(l, []api.Probe{probe(3, 0), probe(1, 2)}); e != api.OK || f != api.OK || len(l) != 3 {
+		t.Errorf("%v: %d, %d", l, e, f)
+	}
+	tree, worst, _ := Best(l, []api.Probe{probe(3, 0), probe(1, 2)})
+	if rest, cost, e := Follow(l, []api.Probe{probe(3, 0), probe(1, 2)}, tree, []int{2}); e != api.OK || cost > worst || !slices.Equal(rest, []int{2}) {
+		t.Errorf("%v, %d of %d", rest, cost, worst)
 	}
 }

@@ -234,3 +234,46 @@ func TestLaws(t *testing.T) {
 		}
 	}
 }
+
+// P12.4: order, grouping, products of sums, and comparisons.
+func TestOrderAndGrouping(t *testing.T) {
+	l := samples(25)
+	ok := func(x api.Ratio, e api.Errno) (api.Ratio, bool) { return x, e == api.OK }
+	for _, a := range l {
+		for _, b := range l {
+			sum, e1 := Add(a, b)
+			mus, e2 := Add(b, a)
+			product, e3 := Mul(a, b)
+			tcudorp, e4 := Mul(b, a)
+			if sum != mus || e1 != e2 || product != tcudorp || e3 != e4 {
+				t.Fatalf("%v and %v", a, b)
+			}
+			order, _ := Cmp(a, b)
+			if back, _ := Cmp(b, a); back != -order {
+				t.Fatalf("the order of %v and %v", a, b)
+			}
+			for _, c := range l {
+				bc, ok1 := ok(Add(b, c))
+				left, ok2 := ok(Add(a, bc))
+				ac, ok3 := ok(Add(a, c))
+				right, ok4 := ok(Add(ac, b))
+				if ok1 && ok2 && ok3 && ok4 && left != right {
+					t.Fatalf("%v + %v + %v", a, b, c)
+				}
+				x, ok5 := ok(Mul(a, c))
+				y, ok6 := ok(Mul(b, c))
+				z, ok7 := ok(Mul(sum, c))
+				xy, ok8 := ok(Add(x, y))
+				if e1 == api.OK && ok5 && ok6 && ok7 && ok8 && z != xy {
+					t.Fatalf("(%v + %v) * %v", a, b, c)
+				}
+				if n, _ := Cmp(ac, bc); ok1 && ok3 && n != order {
+					t.Fatalf("%v added to %v and %v", c, a, b)
+				}
+				if n, _ := Cmp(x, y); ok5 && ok6 && c.N > 0 && n != order {
+					t.Fatalf("%v times %v and %v", c, a, b)
+				}
+			}
+		}
+	}
+}

@@ -157,3 +157,24 @@ func TestLaws(t *testing.T) {
 		}
 	}
 }
+
+// P43.7: mixed at once, one after the other, or in another order.
+func TestMixing(t *testing.T) {
+	r := rand.New(rand.NewSource(44))
+	for range 500 {
+		var l []api.Water
+		for range r.Intn(6) {
+			n := 1 + r.Intn(9)
+			l = append(l, water(n, r.Intn(20)))
+		}
+		all, e := Mix(l)
+		one := api.Water{}
+		for _, w := range l {
+			one, _ = Mix([]api.Water{one, w})
+		}
+		r.Shuffle(len(l), func(i, k int) { l[i], l[k] = l[k], l[i] })
+		if other, _ := Mix(l); e != api.OK || other != all || one != all {
+			t.Fatalf("%v: %v, %v, %v", l, all, one, other)
+		}
+	}
+}

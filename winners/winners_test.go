@@ -252,3 +252,30 @@ func TestNoOffers(t *testing.T) {
 		}
 	}
 }
+
+// P45.5: until the end of each week, no more is let out than before, and at most Room less.
+func TestLitres(t *testing.T) {
+	r := rand.New(rand.NewSource(46))
+	for range 300 {
+		m := random(r)
+		set, _, _ := Best(m)
+		awards, ok, e := After(m, set)
+		if !ok || e != api.OK {
+			t.Fatal("the best set cannot be carried out")
+		}
+		kept := 0
+		for week := range m.Awards {
+			before, _, _ := division.Needs(m.District, m.Awards[week])
+			after, _, _ := division.Needs(m.District, awards[week])
+			if kept += before[0] - after[0]; kept < 0 || kept > m.Room {
+				t.Fatalf("%d litres are kept after the week %d", kept, week)
+			}
+		}
+		wet := m
+		wet.Offers = slices.DeleteFunc(slices.Clone(m.Offers), func(o api.Offer) bool { return m.Rain < o.Rain.Lo || m.Rain > o.Rain.Hi })
+		_, a, _ := Best(m)
+		if _, b, _ := Best(wet); a != b {
+			t.Fatal("offers for another rain")
+		}
+	}
+}
