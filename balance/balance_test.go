@@ -243,3 +243,21 @@ func TestConsequences(t *testing.T) {
 		}
 	}
 }
+
+// P23.6: what has evaporated, seeped, been delivered or left does not come back.
+func TestNeverDecreases(t *testing.T) {
+	r := rand.New(rand.NewSource(25))
+	for range 50 {
+		d, x := random(r)
+		before, _ := Accounts(d, x, 0)
+		for hour := range d.Hours {
+			after, _ := Accounts(d, x, hour+1)
+			for i, a := range after {
+				if a.Kind >= api.EvapA && a.Litres < before[i].Litres {
+					t.Fatalf("%v becomes %v", before[i], a)
+				}
+			}
+			before = after
+		}
+	}
+}

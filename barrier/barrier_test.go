@@ -203,3 +203,16 @@ func TestGreatPlant(t *testing.T) {
 		t.Errorf("Invariant: %v, %d", ok, e)
 	}
 }
+
+// P33.6: an inequality that follows from the others can be left out.
+func TestLeftOut(t *testing.T) {
+	c := code(t, opens)
+	b := []api.Ineq{{Level: 1, Most: 4}, {Level: 2, Most: 9}, {Order: 1, Most: 7}}
+	for i := range b[1:] {
+		for _, l := range [][]api.Ineq{b, slices.Delete(slices.Clone(b), i+1, i+2)} {
+			if ok, f, e := Check(pool(), c, l); !ok || e != api.OK {
+				t.Errorf("%v: %v, %d", l, f, e)
+			}
+		}
+	}
+}

@@ -174,3 +174,54 @@ func checkLosses(t *testing.T, r *rand.Rand, d api.District, l []api.Order) {
 		t.Fatal("no orders")
 	}
 }
+
+// P28.5: of each fault the litres are on the wrong side of the limit. P28.4: what is accepted for claims has no order that is less than planned.
+func TestSides(t *testing.T) {
+	r := rand.New(rand.NewSource(29))
+	accepted := 0
+	for range 2000 {
+		d := district()
+		d.Tank.Start = 60 + r.Intn(300)
+		for i := range d.Reaches {
+			d.Reaches[i].Siphon, d.Reaches[i].Cap, d.Reaches[i].Bank = r.Intn(8), 8+r.Intn(90), 8+r.Intn(150)
+		}
+		c := []api.Claim{claim(0, 6, 1+r.Intn(9)), claim(3, 7, 1+r.Intn(9))}
+		wide := d
+		wide.Tank = api.Tank{Cap: 1 << 20, Start: 1 << 20}
+		wide.Reaches = slices.Clone(d.Reaches)
+		for i := range wide.Reaches {
+			wide.Reaches[i].Cap, wide.Reaches[i].Bank = 1<<20, 1<<20
+		}
+		l, _, _ := timetable.Make(wide, c)
+		for i := range l {
+			l[i].Litres = max(1, l[i].Litres+r.Intn(5)-1)
+		}
+		f, e := Faults(d, c, l)
+		if e != api.OK {
+			t.Fatal(e)
+		}
+		for _, x := range f {
+			if less := x.Kind == api.SiphonF || x.Kind == api.ClaimF; less && x.Litres >= x.Limit || !less && x.Litres <= x.Limit {
+				t.Fatalf("%v", x)
+			}
+		}
+		if len(f) > 0 {
+			continue
+		}
+		accepted++
+		least, ok, e := timetable.Make(d, c)
+		if !ok || e != api.OK {
+			t.Fatalf("%v is accepted, but there is no timetable", l)
+		}
+		for _, o := range least {
+			if !slices.ContainsFunc(l, func(x api.Order) bool {
+				return x.Hour == o.Hour && x.Index == o.Index && x.Outlet == o.Outlet && x.Litres >= o.Litres
+			}) {
+				t.Fatalf("%v is not in %v", o, l)
+			}
+		}
+	}
+	if accepted < 10 {
+		t.Errorf("only %d orders are accepted", accepted)
+	}
+}

@@ -176,3 +176,38 @@ func TestLaws(t *testing.T) {
 		}
 	}
 }
+
+// P55.4: facts are added in any order. P55.6: what changed makes the difference of the totals.
+func TestOrderOfFacts(t *testing.T) {
+	r := rand.New(rand.NewSource(56))
+	for range 300 {
+		var l, m []api.Fact
+		var all []api.Fact
+		for no := range r.Intn(8) {
+			from := r.Intn(8)
+			all = append(all, fact(no, 0, r.Intn(5), from, from+r.Intn(4), r.Intn(6)))
+		}
+		for _, i := range r.Perm(len(all)) {
+			l, _ = Add(l, all[i])
+		}
+		for _, x := range all {
+			m, _ = Add(m, x)
+		}
+		if !slices.Equal(l, m) {
+			t.Fatalf("%v and %v", l, m)
+		}
+		a, b := r.Intn(7), r.Intn(7)
+		changed, _ := Changed(l, 0, a, b, span(0, 12))
+		difference := 0
+		for _, part := range changed {
+			x, _ := Total(l, 0, a, part)
+			y, _ := Total(l, 0, b, part)
+			difference += y - x
+		}
+		x, _ := Total(l, 0, a, span(0, 12))
+		y, _ := Total(l, 0, b, span(0, 12))
+		if y-x != difference {
+			t.Fatalf("%d, not %d", y-x, difference)
+		}
+	}
+}

@@ -236,3 +236,33 @@ func TestSeniority(t *testing.T) {
 		}
 	}
 }
+
+// P46.7: deals for another rain can be left out.
+func TestOtherRain(t *testing.T) {
+	r := rand.New(rand.NewSource(48))
+	for range 300 {
+		d, awards := random(r)
+		var deals []api.Deal
+		for range r.Intn(5) {
+			from := r.Intn(4)
+			lo := r.Intn(10)
+			deals = append(deals, deal(from, (from+1+r.Intn(3))%4, r.Intn(9), lo, lo+r.Intn(5)))
+		}
+		rain := r.Intn(12)
+		got, next, e := Execute(d, awards, deals, rain)
+		fewer := slices.DeleteFunc(slices.Clone(deals), func(x api.Deal) bool { return rain < x.Rain.Lo || rain > x.Rain.Hi })
+		less, same, f := Execute(d, awards, fewer, rain)
+		sum := 0
+		for i, n := range got {
+			if sum += n; n > 0 && (rain < deals[i].Rain.Lo || rain > deals[i].Rain.Hi) {
+				t.Fatalf("%v is executed", deals[i])
+			}
+		}
+		for _, n := range less {
+			sum -= n
+		}
+		if e != api.OK || f != api.OK || !slices.Equal(next, same) || sum != 0 {
+			t.Fatalf("%v, %v", next, same)
+		}
+	}
+}

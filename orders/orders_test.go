@@ -215,3 +215,30 @@ func TestSafe(t *testing.T) {
 		}
 	}
 }
+
+// P34.6: in whatever order the packets of an hour arrive, the gates have heard the same after all of them.
+func TestOrderOfPackets(t *testing.T) {
+	r := rand.New(rand.NewSource(36))
+	for range 100 {
+		b := fresh(t, 3)
+		for range 8 {
+			b, _ = Send(b, r.Intn(3), r.Intn(8))
+		}
+		heard := func() []int {
+			x := b
+			for len(x.Net.Queue) > 0 {
+				x, _, _ = Deliver(x, r.Intn(len(x.Net.Queue)))
+			}
+			return x.Heard
+		}
+		if !slices.Equal(heard(), heard()) {
+			t.Fatal("the order of packets matters")
+		}
+		twice, _ := Repeat(b, 0)
+		once := deliver(t, twice, 0, true)
+		again, _, _ := Deliver(once, len(once.Net.Queue)-1)
+		if !slices.Equal(again.Heard, once.Heard) {
+			t.Fatal("a packet that is delivered twice")
+		}
+	}
+}

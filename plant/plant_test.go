@@ -141,3 +141,20 @@ func TestLaws(t *testing.T) {
 		}
 	}
 }
+
+// P32.5: safe states stay safe with a greater bank, and with a greater pass.
+func TestSafer(t *testing.T) {
+	r := rand.New(rand.NewSource(33))
+	for range 500 {
+		p := plant()
+		p.Bank, p.Pass = 1+r.Intn(7), r.Intn(7)
+		s := api.State{Level: r.Intn(10), Position: r.Intn(4)}
+		wider := p
+		wider.Bank, wider.Pass = p.Bank+r.Intn(2), p.Pass+r.Intn(2)
+		before, _ := Safe(p, s)
+		after, e := Safe(wider, s)
+		if want := s.Level >= p.Siphon && s.Level <= p.Bank && p.Rate*s.Position <= p.Pass; before != want || before && !after || e != api.OK {
+			t.Fatalf("%v in %v: %v, %v", s, p, before, after)
+		}
+	}
+}

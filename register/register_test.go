@@ -194,3 +194,28 @@ func TestLaws(t *testing.T) {
 		}
 	}
 }
+
+// P25.6: two deeds are added in either order.
+func TestOrderOfDeeds(t *testing.T) {
+	r := rand.New(rand.NewSource(26))
+	d := district()
+	both := 0
+	for range 500 {
+		l := random(r)
+		a, b := pass(20+r.Intn(3), 0, 0, 1+r.Intn(2), r.Intn(9), r.Intn(9)), void(20+r.Intn(4), r.Intn(8), r.Intn(9))
+		one, e1 := Add(d, l, a)
+		one, e2 := Add(d, one, b)
+		two, e3 := Add(d, l, b)
+		two, e4 := Add(d, two, a)
+		if e1 != api.OK || e2 != api.OK || e3 != api.OK || e4 != api.OK {
+			continue
+		}
+		both++
+		if !reflect.DeepEqual(one, two) {
+			t.Fatalf("%v and %v", one, two)
+		}
+	}
+	if both < 20 {
+		t.Errorf("only %d pairs are accepted in both orders", both)
+	}
+}
