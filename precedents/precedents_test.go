@@ -17,6 +17,11 @@ func cases(l ...api.Case) api.Cases {
 	return api.Cases{Sides: []int{0, 0, 1, 1}, Cases: l}
 }
 
+func numbered(no int, c api.Case) api.Case {
+	c.No = no
+	return c
+}
+
 // P52.1: valid cases.
 func TestCheck(t *testing.T) {
 	good := decided(3, 5, 0, []int{0, 1, 2}, []int{1})
@@ -51,10 +56,7 @@ func TestClashAndBinds(t *testing.T) {
 		b    api.Cases
 		i, j int
 		ok   bool
-	}{{cases(), 0, 0, false}, {cases(a, b), 0, 0, false}, {cases(a, c), 0, 0, false}, {cases(a, d), 0, 1, true}, {cases(b, a, c, d), 0, 0, false}, {cases(a, b, c, d), 0, 3, true}} {
-		if i == 4 {
-			x.b.Cases[1].No, x.b.Cases[2].No, x.b.Cases[3].No, x.i, x.j, x.ok = 5, 6, 7, 1, 3, true
-		}
+	}{{cases(), 0, 0, false}, {cases(a, b), 0, 0, false}, {cases(a, c), 0, 0, false}, {cases(a, d), 0, 1, true}, {cases(a, b, c, d), 0, 3, true}, {cases(b, numbered(5, a), numbered(6, c), numbered(7, d)), 1, 3, true}} {
 		if i2, j, ok, e := Clash(x.b); i2 != x.i || j != x.j || ok != x.ok || e != api.OK {
 			t.Errorf("case %d: %d, %d, %v, %d", i, i2, j, ok, e)
 		}
