@@ -94,6 +94,27 @@ func TestCollide(t *testing.T) {
 	}
 }
 
+// P7.3: with a hash that is weak enough for collisions, the texts of the first row with one digest are found.
+func TestCollision(t *testing.T) {
+	weak := func(text []byte) (d api.Digest) {
+		d[0] = text[0]
+		return d
+	}
+	left := [][]byte{{1, 1}, {2, 1}, {3, 1}, {4, 1}}
+	for i, x := range []struct {
+		right [][]byte
+		row   int
+	}{{[][]byte{{1, 2}, {2, 2}, {3, 2}, {4, 2}}, 0}, {[][]byte{{9, 2}, {2, 2}, {3, 2}, {4, 2}}, 1}, {[][]byte{{9, 2}, {8, 2}, {7, 2}, {4, 2}}, 3}} {
+		a, b, ok := collision(left, x.right, weak)
+		if !ok || !bytes.Equal(a, left[x.row]) || !bytes.Equal(b, x.right[x.row]) {
+			t.Errorf("case %d: %v, %v, %v", i, a, b, ok)
+		}
+	}
+	if a, b, ok := collision(left, [][]byte{{9}, {8}, {7}, {6}}, weak); ok || a != nil || b != nil {
+		t.Error("no row with one digest")
+	}
+}
+
 // P7.3: the texts of a way end in the root, so equal roots have an equal row. Their texts are what Collide compares.
 func TestTexts(t *testing.T) {
 	for n := 1; n <= 20; n++ {

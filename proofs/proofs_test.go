@@ -148,6 +148,25 @@ func TestCollide(t *testing.T) {
 	}
 }
 
+// P57.3: of two ways whose Hashes are the same by chance, the first texts that differ, from the root down, are found.
+func TestCollision(t *testing.T) {
+	at := func(hash byte, text string) step {
+		return step{api.Sum{Hash: api.Digest{hash}}, []byte(text)}
+	}
+	one := []step{at(1, "leaf"), at(2, "node"), at(3, "root")}
+	for i, x := range []struct {
+		other []step
+		a, b  string
+	}{{[]step{at(1, "x"), at(2, "y"), at(3, "z")}, "root", "z"}, {[]step{at(1, "x"), at(2, "y"), at(3, "root")}, "node", "y"}, {[]step{at(1, "x"), at(2, "node"), at(3, "root")}, "leaf", "x"}, {[]step{at(1, "x"), at(9, "y"), at(3, "root")}, "leaf", "x"}} {
+		if a, b, ok := collision(one, x.other); !ok || string(a) != x.a || string(b) != x.b {
+			t.Errorf("case %d: %s, %s, %v", i, a, b, ok)
+		}
+	}
+	if a, b, ok := collision(one, one); ok || a != nil || b != nil {
+		t.Error("the same way")
+	}
+}
+
 // P57.3: texts that differ have different digests on all ways, down from the root.
 func TestWays(t *testing.T) {
 	r := rand.New(rand.NewSource(57))
