@@ -151,3 +151,43 @@ func TestLaws(t *testing.T) {
 		}
 	}
 }
+
+// P37.1 and P37.2: windows, one by one.
+func TestWindows(t *testing.T) {
+	r := rand.New(rand.NewSource(38))
+	for range 1000 {
+		l := []api.Past{}
+		for range r.Intn(4) {
+			var n []int
+			for range 1 + r.Intn(4) {
+				n = append(n, 10, 12, 8+r.Intn(7))
+			}
+			l = append(l, past(0, n...))
+		}
+		of := 1 + r.Intn(7)
+		b := budget(r.Intn(of), of)
+		all := distances(l, 0)
+		enough := func(m int) bool {
+			for first := range all {
+				fails := 0
+				for _, n := range all[first:min(len(all), first+of)] {
+					if n > m {
+						fails++
+					}
+				}
+				if fails > b.Fails {
+					return false
+				}
+			}
+			return true
+		}
+		want := 0
+		for !enough(want) {
+			want++
+		}
+		ok, _ := Within(l, 0, b)
+		if m, e := Margin(l, 0, b); e != api.OK || m != want || ok != (want == 0) {
+			t.Fatalf("%v with %v: %d, want %d", all, b, m, want)
+		}
+	}
+}

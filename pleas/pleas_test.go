@@ -201,3 +201,62 @@ func TestLaws(t *testing.T) {
 		t.Errorf("only %d pleas are valid", valid)
 	}
 }
+
+// naive finds the answers by the definition, sentence by sentence.
+func naive(p api.Plea) map[int]int {
+	strict, _ := Strict(p)
+	isStrict := func(q int) bool { return slices.Contains(strict, q) }
+	proved, refuted := map[int]bool{}, map[int]bool{}
+	on := func(c api.Clause) bool { return !slices.ContainsFunc(c.If, func(q int) bool { return !proved[q] }) }
+	off := func(c api.Clause) bool { return slices.ContainsFunc(c.If, func(q int) bool { return refuted[q] }) }
+	every := func(q int, holds func(c api.Clause) bool) bool {
+		return !slices.ContainsFunc(p.Clauses, func(c api.Clause) bool { return c.Then == q && !holds(c) })
+	}
+	some := func(q int, holds func(c api.Clause) bool) bool {
+		return slices.ContainsFunc(p.Clauses, func(c api.Clause) bool { return c.Then == q && holds(c) })
+	}
+	for range 200 {
+		for q := range literals() {
+			defended := every(-q, func(s api.Clause) bool {
+				return off(s) || some(q, func(c api.Clause) bool { return on(c) && c.Rank > s.Rank })
+			})
+			if isStrict(q) || !isStrict(-q) && some(q, on) && defended {
+				proved[q] = true
+			}
+			beaten := some(-q, func(s api.Clause) bool {
+				return on(s) && every(q, func(c api.Clause) bool { return off(c) || c.Rank <= s.Rank })
+			})
+			if !isStrict(q) && (isStrict(-q) || every(q, off) || beaten) {
+				refuted[q] = true
+			}
+		}
+	}
+	m := map[int]int{}
+	for q := range literals() {
+		m[q] = api.OpenA
+		if proved[q] {
+			m[q] = api.ProvedA
+		}
+		if refuted[q] {
+			m[q] = api.RefutedA
+		}
+	}
+	return m
+}
+
+// P51.2: answers, by the definition.
+func TestDefinition(t *testing.T) {
+	r := rand.New(rand.NewSource(52))
+	for range 100 {
+		p := random(r)
+		if Check(p) != api.OK {
+			continue
+		}
+		want := naive(p)
+		for q, a := range answers(p) {
+			if a != want[q] {
+				t.Fatalf("%v: the answer to %d is %d, want %d", p, q, a, want[q])
+			}
+		}
+	}
+}

@@ -253,3 +253,107 @@ func checkFewer(t *testing.T, r *rand.Rand, d api.District, s []api.Claim) {
 		}
 	}
 }
+
+// naive computes what is wanted by the definition, place by place.
+type naive struct {
+	d      api.District
+	orders map[outlet]int
+}
+
+// wanted returns what is wanted at the end of a reach, and whether that is known.
+func (n naive) wanted(reach, hour int) (litres int, known bool) {
+	known = true
+	for i, f := range n.d.Farms {
+		if f.Reach == reach {
+			litres += n.orders[outlet{i, hour}]
+		}
+	}
+	for i, r := range n.d.Reaches {
+		if r.Up == reach {
+			v, ok := n.parcel(i, hour+r.Delay)
+			litres, known = litres+v, known && ok
+		}
+	}
+	return litres, known
+}
+
+// parcel returns the parcel that serves a reach and an hour, and whether it exists (as far as it is needed).
+func (n naive) parcel(reach, hour int) (litres int, ok bool) {
+	if hour >= n.d.Hours {
+		return 0, true
+	}
+	w, known := n.wanted(reach, hour)
+	r := n.d.Reaches[reach]
+	if !known || w == 0 {
+		return 0, known
+	}
+	v, found, e := losses.Need(r, min(w, 1<<30))
+	return max(v, r.Siphon), e == api.OK && found && w <= 1<<30 && hour >= r.Delay
+}
+
+// limit returns the first fault, looked for in the order of the chapter.
+func (n naive) limit() (f api.Fault) {
+	reaches := len(n.d.Reaches)
+	for hour := range n.d.Hours {
+		for reach := reaches - 1; reach >= 0; reach-- {
+			w, known := n.wanted(reach, hour)
+			if _, ok := n.parcel(reach, hour); known && w > 0 && !ok {
+				return api.Fault{Kind: api.LateF, Hour: hour, Index: reach, Litres: w}
+			}
+		}
+	}
+	tank := 0
+	for hour := range n.d.Hours {
+		for reach, r := range n.d.Reaches {
+			sum := 0
+			for k := range r.Delay {
+				if hour >= k {
+					v, _ := n.parcel(reach, hour-k+r.Delay)
+					sum += v
+				}
+			}
+			v, _ := n.parcel(reach, hour+r.Delay)
+			if reach == 0 {
+				tank += v
+			}
+			if v > r.Cap {
+				return api.Fault{Kind: api.GateF, Hour: hour, Index: reach, Litres: v, Limit: r.Cap}
+			}
+			if sum > r.Bank {
+				return api.Fault{Kind: api.BankF, Hour: hour, Index: reach, Litres: sum, Limit: r.Bank}
+			}
+		}
+	}
+	if tank > n.d.Tank.Start {
+		return api.Fault{Kind: api.TankF, Litres: tank, Limit: n.d.Tank.Start}
+	}
+	return f
+}
+
+// P27.2: the first fault, by the definition.
+func TestFirstFault(t *testing.T) {
+	r := rand.New(rand.NewSource(28))
+	kinds := map[int]int{}
+	for range 500 {
+		d, c := random(r)
+		c = slices.DeleteFunc(c, func(api.Claim) bool { return r.Intn(2) == 0 })
+		for i := range c {
+			if c[i].Hour = max(0, c[i].Hour-r.Intn(2)); i > 0 && c[i].Hour < c[i-1].Hour {
+				c[i].Hour = c[i-1].Hour
+			}
+		}
+		slices.SortFunc(c, by(hour, rank, right, farm))
+		c = slices.CompactFunc(c, func(a, b api.Claim) bool { return a.Hour == b.Hour && a.Right == b.Right })
+		f, ok, e := Limit(d, c)
+		want := naive{d, outlets(c)}.limit()
+		kinds[f.Kind]++
+		if e != api.OK || f != want || ok != (want.Kind != 0) {
+			t.Fatalf("Limit = %v, %d, want %v", f, e, want)
+		}
+	}
+	for _, kind := range []int{0, api.LateF, api.GateF, api.BankF, api.TankF} {
+		if kinds[kind] < 5 {
+			t.Errorf("only %d faults of the kind %d", kinds[kind], kind)
+		}
+	}
+}
